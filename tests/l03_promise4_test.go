@@ -73,20 +73,34 @@ func runCut(s sounding, size int, x []float32) ([]float32, [][]float32, bool) {
 	return all, lines, true
 }
 
+func wantCutAnywhere(t *testing.T, s sounding, x []float32) {
+	t.Helper()
+	want, end, ok := s.run(s.lines, 0, x)
+	if !ok || len(want) != len(x) {
+		t.Fatalf("%s fails", s.name)
+	}
+	for cut := range len(x) + 1 {
+		first, middle, also := s.run(s.lines, 0, x[:cut])
+		second, last, too := s.run(middle, cut, x[cut:])
+		wantSamples(t, s.name, append(first, second...), also && too, want)
+		wantLines(t, s.name, last, also && too, end)
+	}
+}
+
+func wantCutIntoBlocks(t *testing.T, s sounding, x []float32) {
+	t.Helper()
+	want, end, _ := s.run(s.lines, 0, x)
+	for _, size := range []int{1, 2, 3, 7, 16, 63, 64, 65, 128, 255, 256} {
+		got, last, ok := runCut(s, size, x)
+		wantSamples(t, s.name, got, ok, want)
+		wantLines(t, s.name, last, ok, end)
+	}
+}
+
 func TestPromise4SamplesAreCutAnywhere(t *testing.T) {
 	for style := range styles {
 		for _, s := range soundings(style) {
-			x := samplesOfStyle(style, 480, 256)
-			want, end, ok := s.run(s.lines, 0, x)
-			if !ok || len(want) != 256 {
-				t.Fatalf("%s fails", s.name)
-			}
-			for cut := range 257 {
-				first, middle, also := s.run(s.lines, 0, x[:cut])
-				second, last, too := s.run(middle, cut, x[cut:])
-				wantSamples(t, s.name, append(first, second...), also && too, want)
-				wantLines(t, s.name, last, also && too, end)
-			}
+			wantCutAnywhere(t, s, samplesOfStyle(style, 480, 256))
 		}
 	}
 }
@@ -94,13 +108,7 @@ func TestPromise4SamplesAreCutAnywhere(t *testing.T) {
 func TestPromise4SamplesAreCutIntoBlocks(t *testing.T) {
 	for style := range styles {
 		for _, s := range soundings(style) {
-			x := samplesOfStyle(style, 490, 256)
-			want, end, _ := s.run(s.lines, 0, x)
-			for _, size := range []int{1, 2, 3, 7, 16, 63, 64, 65, 128, 255, 256} {
-				got, last, ok := runCut(s, size, x)
-				wantSamples(t, s.name, got, ok, want)
-				wantLines(t, s.name, last, ok, end)
-			}
+			wantCutIntoBlocks(t, s, samplesOfStyle(style, 490, 256))
 		}
 	}
 }

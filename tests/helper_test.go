@@ -65,6 +65,13 @@ func wantNoList[T any](t *testing.T, what string, got []T, ok bool) {
 	}
 }
 
+func wantIntegers(t *testing.T, what string, got []int64, ok bool, want []int64) {
+	t.Helper()
+	if !ok || !slices.Equal(got, want) {
+		t.Errorf("%s: got %v %v, want %v", what, got, ok, want)
+	}
+}
+
 func repeated(x float32, count int) []float32 {
 	return slices.Repeat([]float32{x}, count)
 }

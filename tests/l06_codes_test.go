@@ -51,17 +51,10 @@ func plainCodes(bits int64, x []float32) []int64 {
 	return codes
 }
 
-func wantCodes(t *testing.T, what string, got []int64, ok bool, want []int64) {
-	t.Helper()
-	if !ok || !slices.Equal(got, want) {
-		t.Errorf("%s: got %v %v, want %v", what, got, ok, want)
-	}
-}
-
 func wantCodesOf(t *testing.T, what string, bits int64, x []float32, want ...int64) {
 	t.Helper()
 	got, ok := impl.CodesOf(bits, x)
-	wantCodes(t, what, got, ok, want)
+	wantIntegers(t, what, got, ok, want)
 }
 
 // over128 are samples whose products for 8 bits are told.
@@ -245,7 +238,7 @@ func wantBytes(t *testing.T, what string, codes []int64, want string) {
 		t.Errorf("%s: got %q %v, want %q", what, got, ok, want)
 	}
 	got, ok := impl.CodesOfBytes(want)
-	wantCodes(t, what+", read", got, ok, codes)
+	wantIntegers(t, what+", read", got, ok, codes)
 }
 
 func TestChapter6BytesByHand(t *testing.T) {
@@ -289,5 +282,5 @@ func TestChapter6WrongBytes(t *testing.T) {
 	codes, ok = impl.CodesOfBytes("é\xff")
 	wantNoList(t, "three bytes", codes, ok)
 	codes, ok = impl.CodesOfBytes(string(make([]byte, 512)))
-	wantCodes(t, "as many as there can be", codes, ok, make([]int64, 256))
+	wantIntegers(t, "as many as there can be", codes, ok, make([]int64, 256))
 }

@@ -35,7 +35,7 @@ func plainNoisy(bits int64, x []float32, noise []int64) []int64 {
 func wantNoisy(t *testing.T, what string, bits int64, x []float32, noise []int64, want ...int64) {
 	t.Helper()
 	got, ok := impl.CodesWith(bits, x, noise)
-	wantCodes(t, what, got, ok, want)
+	wantIntegers(t, what, got, ok, want)
 }
 
 func TestChapter6NoiseByHand(t *testing.T) {
@@ -131,7 +131,7 @@ func plainShaped(bits int64, x []float32, share float32) ([]int64, float32) {
 func wantShaped(t *testing.T, what string, bits int64, x []float32, share, carried float32, want ...int64) {
 	t.Helper()
 	got, last, ok := impl.CodesShaped(bits, x, share)
-	wantCodes(t, what, got, ok, want)
+	wantIntegers(t, what, got, ok, want)
 	wantNumber(t, what+", the error", last, carried)
 }
 

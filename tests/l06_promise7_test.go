@@ -189,7 +189,7 @@ func TestPromise7NoiseThatIsNoneChangesNothing(t *testing.T) {
 			}
 			for _, share := range []float32{0, minus0, notANum, infinity, -infinity} {
 				codes, _, ok := impl.CodesShaped(bits, x, share)
-				wantCodes(t, "no error that is carried on", codes, ok, want)
+				wantIntegers(t, "no error that is carried on", codes, ok, want)
 			}
 		}
 	}
@@ -207,7 +207,7 @@ func TestPromise7CodesOfSamplesOfCodes(t *testing.T) {
 			}
 			wantCodesOf(t, "codes of samples of codes", bits, x, codes...)
 			shaped, carried, ok := impl.CodesShaped(bits, x, 1)
-			wantCodes(t, "shaped", shaped, ok, codes)
+			wantIntegers(t, "shaped", shaped, ok, codes)
 			wantNumber(t, "no error", carried, 0)
 		}
 	}
@@ -222,7 +222,7 @@ func TestPromise7CodesOfBytesOfCodes(t *testing.T) {
 				t.Errorf("%d bytes of %d codes", len(text), count)
 			}
 			read, ok := impl.CodesOfBytes(text)
-			wantCodes(t, "codes of bytes", read, ok, codes)
+			wantIntegers(t, "codes of bytes", read, ok, codes)
 			again, ok := impl.BytesOfCodes(read)
 			if !ok || again != text {
 				t.Error("the bytes of codes of bytes are others")

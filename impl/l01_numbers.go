@@ -360,15 +360,11 @@ func GainOf(tenths int64) (float32, bool) {
 }
 
 // textOfList joins the texts of all items of a list.
-func textOfList[T any](list []T, textOf func(T) string) string {
+func textOfList[T any](list []T, separator string, textOf func(T) string) string {
 	if len(list) == 0 {
 		return emptyText
 	}
-	words := make([]string, len(list))
-	for i, item := range list {
-		words[i] = textOf(item)
-	}
-	return strings.Join(words, ",")
+	return strings.Join(resultsOf(list, textOf), separator)
 }
 
 // listOfText returns the list whose text is s, if it has at most so many items.
@@ -409,12 +405,14 @@ func readNumber(s string) (float32, bool) {
 	return x, true
 }
 
+func numbersText(list []float32) string { return textOfList(list, ",", numberText) }
+
 // NumbersText returns the text of numbers.
 func NumbersText(list []float32) (string, bool) {
 	if !areSamples(list) {
 		return "", false
 	}
-	return textOfList(list, numberText), true
+	return numbersText(list), true
 }
 
 // ReadNumbers returns the numbers with the given text.
@@ -464,7 +462,7 @@ func ListText(list []int64) (string, bool) {
 	if !areValues(list) {
 		return "", false
 	}
-	return textOfList(list, Decimal), true
+	return textOfList(list, ",", Decimal), true
 }
 
 // ReadList returns the list with the given text.

@@ -221,6 +221,11 @@ func PeakOf(list []float32) (float32, bool) {
 	if !areSamples(list) {
 		return 0, false
 	}
+	return peakOf(list), true
+}
+
+// peakOf has no limit for the number of samples.
+func peakOf(list []float32) float32 {
 	var peak float32
 	for _, x := range list {
 		// A not-a-number is not greater than anything, and is passed over.
@@ -228,7 +233,7 @@ func PeakOf(list []float32) (float32, bool) {
 			peak = size
 		}
 	}
-	return peak, true
+	return peak
 }
 
 // ExpNumber returns the exponential function.
